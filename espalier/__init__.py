@@ -1,0 +1,1 @@
+"""Espalier: a concurrent B+-tree, one memory access at a time."""

@@ -1,0 +1,43 @@
+"""Machines for tests, and what the tests look at in a memory."""
+
+
+class Script:
+    """A machine that makes the given requests, whatever their results are.
+
+    `accepted` is the list of the results.
+    """
+
+    def __init__(self, *requests):
+        self.requests = requests
+        self.accepted = []
+
+    def request(self):
+        return self.requests[len(self.accepted)]
+
+    def accept(self, result):
+        self.accepted.append(result)
+
+
+class Recaller:
+    """A machine that calls machines, then ends with the list of their values."""
+
+    def __init__(self, machines):
+        self.machines = machines
+        self.values = []
+
+    def request(self):
+        if len(self.values) < len(self.machines):
+            return ("call", self.machines[len(self.values)])
+        return ("end", self.values)
+
+    def accept(self, result):
+        self.values.append(result)
+
+
+def all_cells(memory):
+    return [memory.peek(cell) for cell in range(memory.layout.cells())]
+
+
+def state_of(memory):
+    """Everything that a refusal must leave as it is."""
+    return (all_cells(memory), memory.count, memory.log(), memory.layout)

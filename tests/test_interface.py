@@ -1,0 +1,71 @@
+"""The interface: names, arguments, and where each of them is defined."""
+
+import inspect
+import unittest
+
+from espalier import errors, machines, memory
+from tests.scripts import Script
+
+# Module, class, then its arguments and those of its methods.
+CLASSES = (
+    (memory, "Layout", ["threads", "pages", "records"], {
+        "slot": ["thread"], "word": ["page"], "record": ["index"],
+        "cells": [], "is_record": ["cell"]}),
+    (memory, "Memory", ["layout"], {
+        "access": ["thread", "request"], "peek": ["cell"], "log": []}),
+    (machines, "Stack", ["machine"], {
+        "step": ["memory", "thread"], "ended": [], "value": []}),
+    (errors, "EspalierError", [], {}),
+    (errors, "NotValid", [], {}),
+    (errors, "Broken", [], {}),
+)
+FUNCTIONS = ((memory, "is_mark", ["value"]),)
+
+
+def parameters(thing):
+    return list(inspect.signature(thing).parameters)
+
+
+class InterfaceTest(unittest.TestCase):
+    def test_classes(self):
+        for module, name, arguments, methods in CLASSES:
+            found = getattr(module, name)
+            self.assertTrue(inspect.isclass(found))
+            self.assertEqual(found.__module__, module.__name__)
+            self.assertEqual(parameters(found), arguments, name)
+            for method, names in methods.items():
+                self.assertIn(method, vars(found), name)
+                self.assertEqual(parameters(vars(found)[method])[1:], names, method)
+
+    def test_functions(self):
+        for module, name, arguments in FUNCTIONS:
+            found = getattr(module, name)
+            self.assertTrue(inspect.isfunction(found))
+            self.assertEqual(found.__module__, module.__name__)
+            self.assertEqual(parameters(found), arguments)
+
+    def test_fields_are_set_when_an_object_is_created(self):
+        layout = memory.Layout(1, 2, 3)
+        for name in ("threads", "pages", "records"):
+            self.assertIn(name, vars(layout))
+        for name in ("layout", "count"):
+            self.assertIn(name, vars(memory.Memory(layout)))
+
+    def test_true_and_false_are_not_used_as_integers(self):
+        held = memory.Memory(memory.Layout(1, 2, 3))
+        stack = machines.Stack(Script(("read", 0), ("end", 0)))
+        truths = (
+            stack.ended(), stack.step(held, 0), stack.step(held, 0), stack.ended(),
+            held.layout.is_record(7), held.layout.is_record(6),
+            memory.is_mark(()), memory.is_mark(7),
+            held.access(0, ("swap", 0, 0, 1))[0], held.access(0, ("swap", 0, 0, 1))[0],
+            held.access(0, ("decide", 0, "done"))[0])
+        self.assertEqual([isinstance(truth, bool) for truth in truths], [True] * 11)
+        numbers = [held.count, held.layout.slot(0), held.layout.word(0),
+                   held.layout.record(0), held.layout.cells(), held.peek(0)]
+        numbers.extend(number for row in held.log() for number in row[:2])
+        self.assertNotIn(True, [isinstance(number, bool) for number in numbers])
+
+
+if __name__ == "__main__":
+    unittest.main()
