@@ -1,20 +1,6 @@
 """Machines do the work; a stack plays them, one access at a step."""
 
 
-class Machine:
-    """The two methods of every machine; this one ends at once with None.
-
-    Other machines need not be built on it.
-    """
-
-    def request(self):
-        """Return what the machine wants next; nothing is changed."""
-        return ("end", None)
-
-    def accept(self, result):
-        """Take the result of the last request; this machine needs none."""
-
-
 class Stack:
     """The machines of a thread: each was called by the one below it."""
 

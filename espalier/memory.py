@@ -1,11 +1,13 @@
 """The memory: cells that threads read and change, one access at a time."""
 
 from espalier.errors import NotValid
+from espalier.kinds import is_whole
 
 MOST_THREADS = 4
 LEAST_PAGES = 2
 MOST_PAGES = 48
 
+EPOCH = 0
 FIRST_SLOT = 1
 FIRST_WORD = 5
 
@@ -18,13 +20,8 @@ def is_mark(value):
     return isinstance(value, tuple)
 
 
-def _is_integer(value):
-    # For Python True and False are integers, for the document they are not.
-    return isinstance(value, int) and not isinstance(value, bool)
-
-
 def _is_between(value, least, most):
-    return _is_integer(value) and least <= value <= most
+    return is_whole(value) and least <= value <= most
 
 
 def _is_access(request):
@@ -56,7 +53,7 @@ class Layout:
             raise NotValid()
         if not _is_between(pages, LEAST_PAGES, MOST_PAGES):
             raise NotValid()
-        if not _is_integer(records) or records < pages:
+        if not is_whole(records) or records < pages:
             raise NotValid()
         self.threads = threads
         self.pages = pages

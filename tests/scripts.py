@@ -1,5 +1,7 @@
 """Machines for tests, and what the tests look at in a memory."""
 
+from espalier.machines import Stack
+
 
 class Script:
     """A machine that makes the given requests, whatever their results are.
@@ -41,3 +43,28 @@ def all_cells(memory):
 def state_of(memory):
     """Everything that a refusal must leave as it is."""
     return (all_cells(memory), memory.count, memory.log(), memory.layout)
+
+
+def put(memory, cell, value):
+    """Give a cell a value, whatever it holds."""
+    memory.access(0, ("write", cell, value))
+
+
+def pass_time(memory, count):
+    """Make accesses that change nothing until so many have been made."""
+    while memory.count < count:
+        memory.access(0, ("read", 0))
+
+
+def play_alone(memory, machine, thread=0):
+    """Play a machine to its end; return its value and its accesses as (kind, cell)."""
+    before = memory.count
+    stack = Stack(machine)
+    while not stack.ended():
+        stack.step(memory, thread)
+    return stack.value(), [row[2:] for row in memory.log()[before:]]
+
+
+def is_steady(machine):
+    """Tell whether asking a machine twice gives the same request."""
+    return machine.request() == machine.request()

@@ -3,8 +3,11 @@
 import inspect
 import unittest
 
-from espalier import errors, machines, memory
+from espalier import deeds, epochs, errors, machines, memory, nodes, reads
 from tests.scripts import Script
+
+# Point [8] names the methods of each machine.
+MACHINE = {"request": [], "accept": ["result"]}
 
 # Module, class, then its arguments and those of its methods.
 CLASSES = (
@@ -15,11 +18,39 @@ CLASSES = (
         "access": ["thread", "request"], "peek": ["cell"], "log": []}),
     (machines, "Stack", ["machine"], {
         "step": ["memory", "thread"], "ended": [], "value": []}),
+    (reads, "Shown", ["layout", "page"], MACHINE),
+    (deeds, "Doing", ["address"], MACHINE),
+    (epochs, "Store", ["layout", "thread"], {
+        "take": ["cells", "pages"], "give_back": ["cells", "pages"], "take_out": ["cells"],
+        "free_cells": [], "free_pages": [], "waiting": []}),
+    (epochs, "Entering", ["store"], MACHINE),
+    (epochs, "Leaving", ["store"], MACHINE),
     (errors, "EspalierError", [], {}),
     (errors, "NotValid", [], {}),
     (errors, "Broken", [], {}),
 )
-FUNCTIONS = ((memory, "is_mark", ["value"]),)
+FUNCTIONS = (
+    (memory, "is_mark", ["value"]),
+    (reads, "shown_now", ["memory", "page"]),
+    (deeds, "deed_record", ["status", "entries"]),
+    (nodes, "leaf", ["low", "high", "keys", "values"]),
+    (nodes, "inner", ["level", "low", "high", "keys", "pages"]),
+    (nodes, "is_record", ["value"]),
+    (nodes, "level_of", ["record"]),
+    (nodes, "size_of", ["record"]),
+    (nodes, "bounds_of", ["record"]),
+    (nodes, "child_bounds", ["record", "index"]),
+    (nodes, "covers", ["record", "key"]),
+    (nodes, "value_in", ["record", "key"]),
+    (nodes, "child_of", ["record", "key"]),
+    (nodes, "with_value", ["record", "key", "value"]),
+    (nodes, "without_key", ["record", "key"]),
+    (nodes, "with_child", ["record", "index", "separator", "page"]),
+    (nodes, "without_child", ["record", "index"]),
+    (nodes, "with_separator", ["record", "index", "separator"]),
+    (nodes, "cut", ["record"]),
+    (nodes, "joined", ["first", "separator", "second"]),
+)
 
 
 def parameters(thing):
@@ -50,6 +81,8 @@ class InterfaceTest(unittest.TestCase):
             self.assertIn(name, vars(layout))
         for name in ("layout", "count"):
             self.assertIn(name, vars(memory.Memory(layout)))
+        for name in ("layout", "thread"):
+            self.assertIn(name, vars(epochs.Store(layout, 0)))
 
     def test_true_and_false_are_not_used_as_integers(self):
         held = memory.Memory(memory.Layout(1, 2, 3))
@@ -64,6 +97,12 @@ class InterfaceTest(unittest.TestCase):
         numbers = [held.count, held.layout.slot(0), held.layout.word(0),
                    held.layout.record(0), held.layout.cells(), held.peek(0)]
         numbers.extend(number for row in held.log() for number in row[:2])
+        store = epochs.Store(held.layout, 0)
+        numbers.extend(store.free_cells() + list(store.free_pages()[0]))
+        numbers.append(reads.shown_now(held, 0))
+        record = nodes.leaf(None, 9, [1, 2], [3, 4])
+        numbers.extend([nodes.level_of(record), nodes.size_of(record), nodes.cut(record)[1]])
+        numbers.append(nodes.child_of(("inner", 1, None, None, (5,), (1, 2)), 7))
         self.assertNotIn(True, [isinstance(number, bool) for number in numbers])
 
 

@@ -3,7 +3,7 @@
 import unittest
 
 from espalier.errors import NotValid
-from espalier.machines import Machine, Stack
+from espalier.machines import Stack
 from espalier.memory import Layout, Memory
 from tests.scripts import Recaller, Script, state_of
 
@@ -85,18 +85,6 @@ class EndsTest(StackCase):
         self.assertIs(stack.ended(), True)
         self.assertEqual(stack.value(), 3)
         self.assertEqual(self.memory.count, 0)
-
-    def test_the_plain_machine_ends_at_once_with_none(self):
-        stack = Stack(Machine())
-        self.assertIs(stack.ended(), False)
-        self.assertIs(stack.step(self.memory, 0), False)
-        self.assertIs(stack.ended(), True)
-        self.assertIsNone(stack.value())
-
-    def test_the_plain_machine_hands_none_to_its_caller(self):
-        stack = Stack(Recaller([Machine(), Machine()]))
-        self.assertIs(stack.step(self.memory, 0), False)
-        self.assertEqual(stack.value(), [None, None])
 
     def test_a_step_with_an_empty_stack_changes_nothing(self):
         stack = Stack(Script(("read", 0), ("end", 3)))
