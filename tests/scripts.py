@@ -68,3 +68,19 @@ def play_alone(memory, machine, thread=0):
 def is_steady(machine):
     """Tell whether asking a machine twice gives the same request."""
     return machine.request() == machine.request()
+
+
+def play_among(memory, machine, moves, thread=0):
+    """Play a machine to its end; behind its access number k `moves[k]` is called.
+
+    Returns its value and its accesses as (number, kind, cell).
+    """
+    stack = Stack(machine)
+    made = []
+    while not stack.ended():
+        stack.step(memory, thread)
+        number, _, kind, cell = memory.log()[-1]
+        made.append((number, kind, cell))
+        if len(made) in moves:
+            moves[len(made)]()
+    return stack.value(), made

@@ -3,7 +3,8 @@
 import inspect
 import unittest
 
-from espalier import deeds, epochs, errors, machines, memory, nodes, reads
+from espalier import (
+    calls, changes, deeds, epochs, errors, machines, memory, nodes, reads, scans, walks)
 from tests.scripts import Script
 
 # Point [8] names the methods of each machine.
@@ -25,6 +26,10 @@ CLASSES = (
         "free_cells": [], "free_pages": [], "waiting": []}),
     (epochs, "Entering", ["store"], MACHINE),
     (epochs, "Leaving", ["store"], MACHINE),
+    (walks, "Walk", ["layout", "key"], MACHINE),
+    (walks, "Look", ["layout", "page"], MACHINE),
+    (calls, "KeyCall", ["store", "call"], MACHINE),
+    (scans, "Scan", ["store", "low", "high"], MACHINE),
     (errors, "EspalierError", [], {}),
     (errors, "NotValid", [], {}),
     (errors, "Broken", [], {}),
@@ -50,6 +55,13 @@ FUNCTIONS = (
     (nodes, "with_separator", ["record", "index", "separator"]),
     (nodes, "cut", ["record"]),
     (nodes, "joined", ["first", "separator", "second"]),
+    (walks, "leaf_step", ["path"]),
+    (changes, "plan", ["call", "path", "siblings"]),
+    (changes, "new_pages", ["entries"]),
+    (changes, "placed", ["entries", "pages"]),
+    (calls, "is_call", ["call"]),
+    (calls, "machine_of", ["store", "call"]),
+    (scans, "rows_between", ["records", "low", "high"]),
 )
 
 
@@ -83,6 +95,9 @@ class InterfaceTest(unittest.TestCase):
             self.assertIn(name, vars(memory.Memory(layout)))
         for name in ("layout", "thread"):
             self.assertIn(name, vars(epochs.Store(layout, 0)))
+        self.assertIn("restarts", vars(walks.Walk(layout, 5)))
+        for name in ("done", "status"):
+            self.assertIn(name, vars(calls.KeyCall(epochs.Store(layout, 0), ("look", 5))))
 
     def test_true_and_false_are_not_used_as_integers(self):
         held = memory.Memory(memory.Layout(1, 2, 3))
@@ -103,6 +118,8 @@ class InterfaceTest(unittest.TestCase):
         record = nodes.leaf(None, 9, [1, 2], [3, 4])
         numbers.extend([nodes.level_of(record), nodes.size_of(record), nodes.cut(record)[1]])
         numbers.append(nodes.child_of(("inner", 1, None, None, (5,), (1, 2)), 7))
+        numbers.extend([walks.Walk(held.layout, 5).restarts, scans.ROUNDS])
+        numbers.append(changes.new_pages([(-1, None, record)]))
         self.assertNotIn(True, [isinstance(number, bool) for number in numbers])
 
 
