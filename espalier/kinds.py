@@ -11,3 +11,10 @@ def ascend(values):
     """Tell whether neighbours in a list or tuple are integers that ascend."""
     return all([is_whole(one) and is_whole(other) and one < other
                 for one, other in zip(values, values[1:])])
+
+
+def same(one, other):
+    """Tell whether two answers are equal; True is not 1."""
+    if isinstance(one, (list, tuple)) and isinstance(other, (list, tuple)):
+        return one == other and all([same(part, beside) for part, beside in zip(one, other)])
+    return one == other and isinstance(one, bool) == isinstance(other, bool)

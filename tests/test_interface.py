@@ -4,7 +4,8 @@ import inspect
 import unittest
 
 from espalier import (
-    calls, changes, deeds, epochs, errors, machines, memory, nodes, reads, scans, walks)
+    calls, changes, checks, deeds, epochs, errors, histories, judge, machines, memory, nodes,
+    reads, scans, walks, world)
 from tests.scripts import Script
 
 # Point [8] names the methods of each machine.
@@ -30,6 +31,9 @@ CLASSES = (
     (walks, "Look", ["layout", "page"], MACHINE),
     (calls, "KeyCall", ["store", "call"], MACHINE),
     (scans, "Scan", ["store", "low", "high"], MACHINE),
+    (world, "World", ["calls", "pages", "records"], {
+        "play": ["picks"], "run": ["thread", "most"], "idle": ["thread"], "history": [],
+        "shown_map": []}),
     (errors, "EspalierError", [], {}),
     (errors, "NotValid", [], {}),
     (errors, "Broken", [], {}),
@@ -62,6 +66,20 @@ FUNCTIONS = (
     (calls, "is_call", ["call"]),
     (calls, "machine_of", ["store", "call"]),
     (scans, "rows_between", ["records", "low", "high"]),
+    (checks, "shown_records", ["memory"]),
+    (checks, "check_tree", ["records"]),
+    (checks, "tree_map", ["records"]),
+    (checks, "tree_shape", ["records"]),
+    (checks, "lost_cells", ["memory", "stores"]),
+    (histories, "answer_of", ["plain", "call"]),
+    (histories, "after_call", ["plain", "call"]),
+    (histories, "is_change", ["row"]),
+    (histories, "in_order", ["rows"]),
+    (histories, "map_at", ["rows", "number"]),
+    (histories, "changes_between", ["rows", "first", "last"]),
+    (histories, "precedes", ["rows", "one", "other"]),
+    (judge, "first_fault", ["rows"]),
+    (judge, "judge", ["rows"]),
 )
 
 
@@ -98,6 +116,13 @@ class InterfaceTest(unittest.TestCase):
         self.assertIn("restarts", vars(walks.Walk(layout, 5)))
         for name in ("done", "status"):
             self.assertIn(name, vars(calls.KeyCall(epochs.Store(layout, 0), ("look", 5))))
+        for name in ("memory", "layout", "stores"):
+            self.assertIn(name, vars(world.World([[]])))
+
+    def test_the_numbers_of_pages_and_records_of_a_world_may_be_left_out(self):
+        found = inspect.signature(world.World).parameters
+        self.assertEqual([each.default for each in found.values()],
+                         [inspect.Parameter.empty, 48, 400])
 
     def test_true_and_false_are_not_used_as_integers(self):
         held = memory.Memory(memory.Layout(1, 2, 3))
@@ -107,8 +132,11 @@ class InterfaceTest(unittest.TestCase):
             held.layout.is_record(7), held.layout.is_record(6),
             memory.is_mark(()), memory.is_mark(7),
             held.access(0, ("swap", 0, 0, 1))[0], held.access(0, ("swap", 0, 0, 1))[0],
-            held.access(0, ("decide", 0, "done"))[0])
-        self.assertEqual([isinstance(truth, bool) for truth in truths], [True] * 11)
+            held.access(0, ("decide", 0, "done"))[0],
+            calls.is_call(("look", 1)), calls.is_call(1),
+            histories.is_change((0, 0, ("look", 1), None, 1, 1, 1)),
+            world.World([[]]).idle(0), world.World([[]]).run(0, 9))
+        self.assertEqual([isinstance(truth, bool) for truth in truths], [True] * 16)
         numbers = [held.count, held.layout.slot(0), held.layout.word(0),
                    held.layout.record(0), held.layout.cells(), held.peek(0)]
         numbers.extend(number for row in held.log() for number in row[:2])
@@ -120,6 +148,12 @@ class InterfaceTest(unittest.TestCase):
         numbers.append(nodes.child_of(("inner", 1, None, None, (5,), (1, 2)), 7))
         numbers.extend([walks.Walk(held.layout, 5).restarts, scans.ROUNDS])
         numbers.append(changes.new_pages([(-1, None, record)]))
+        played = world.World([[("put", 1, 2)]])
+        numbers.extend([played.play([0] * 30), judge.first_fault([])[1]])
+        rows = played.history()
+        numbers.extend([rows[0][0], rows[0][1], rows[0][4], rows[0][5], rows[0][6]])
+        numbers.extend(histories.in_order(rows) + [histories.changes_between(rows, 0, 99)])
+        numbers.extend(checks.tree_shape(checks.shown_records(played.memory))[0])
         self.assertNotIn(True, [isinstance(number, bool) for number in numbers])
 
 

@@ -211,7 +211,8 @@ class AmongTest(ScansCase):
             self.assertEqual(
                 value[0], answer_and_map(content(TWO_LEVELS), ("scan", low, 100))[0])
 
-    def test_a_mark_whose_deed_is_done_between_the_two_looks(self):
+    def scan_a_mark(self, behind):
+        """Scan page 1 with a mark whose deed is done behind so many accesses."""
         self.begin(TWO_LEVELS)
         put(self.memory, 50, leaf_with(None, 10, 2, 3))
         put(self.memory, 51, 0)
@@ -219,20 +220,16 @@ class AmongTest(ScansCase):
 
         def decide():
             self.memory.access(1, ("decide", 51, "done"))
-        value, made = play_among(self.memory, Scan(self.store, 0, 9), {8: decide})
+        return play_among(self.memory, Scan(self.store, 0, 9), {behind: decide})
+
+    def test_a_mark_whose_deed_is_done_between_the_two_looks(self):
+        value, made = self.scan_a_mark(8)
         self.assertEqual(value[0], [(2, 20), (3, 30)])
         self.assertEqual(value[1], made[3 + 5 + 3 + 2][0])
         self.assertGreater(value[1], self.memory.peek(51)[1])
 
     def test_the_witness_is_the_decision_of_another_thread(self):
-        self.begin(TWO_LEVELS)
-        put(self.memory, 50, leaf_with(None, 10, 2, 3))
-        put(self.memory, 51, 0)
-        put(self.memory, self.layout.word(1), (52, 51, self.layout.record(1), 50))
-
-        def decide():
-            self.memory.access(1, ("decide", 51, "done"))
-        value, made = play_among(self.memory, Scan(self.store, 0, 9), {6: decide})
+        value, made = self.scan_a_mark(6)
         self.assertEqual(value, ([(2, 20), (3, 30)], self.memory.peek(51)[1]))
 
     def fail_rounds(self, many):
